@@ -51,19 +51,27 @@ func TestParseNumberRejects(t *testing.T) {
 	}
 }
 
+// checkReport asks a function that reports true for each of yes, and false for each of no.
+func checkReport[T any](t *testing.T, what string, is func(T) bool, yes []T, no []T) {
+	t.Helper()
+	for _, x := range yes {
+		if !is(x) {
+			t.Errorf("%s(%#v) is false", what, x)
+		}
+	}
+	for _, x := range no {
+		if is(x) {
+			t.Errorf("%s(%#v) is true", what, x)
+		}
+	}
+}
+
 func TestIsName(t *testing.T) {
-	for _, s := range []string{"a", "z", "a0", "z9", "pump1", "abcdefgh", "a1234567", "zzzzzzzz"} {
-		if !impl.IsName(s) {
-			t.Errorf("IsName(%q) is false", s)
-		}
-	}
-	for _, s := range []string{
+	names := []string{"a", "z", "a0", "z9", "pump1", "abcdefgh", "a1234567", "zzzzzzzz"}
+	noNames := []string{
 		"", "0", "9a", "A", "aB", "a b", " a", "a ", "a-b", "a_b", "_a", "a\x00", "a\n", "abcdefghi", "é", "aé", "a\xff", "a`", "a{", "a/", "a:", "`", "{",
-	} {
-		if impl.IsName(s) {
-			t.Errorf("IsName(%q) is true", s)
-		}
 	}
+	checkReport(t, "IsName", impl.IsName, names, noNames)
 }
 
 func TestIsNameOfEachByte(t *testing.T) {
@@ -159,16 +167,7 @@ func TestJoinWithChangesNothing(t *testing.T) {
 }
 
 func TestIsMeasure(t *testing.T) {
-	for _, x := range []int{0, 1, -1, 4095, -4095, 4096, -4096} {
-		if !impl.IsMeasure(x) {
-			t.Errorf("IsMeasure(%d) is false", x)
-		}
-	}
-	for _, x := range beyondMeasures() {
-		if impl.IsMeasure(x) {
-			t.Errorf("IsMeasure(%d) is true", x)
-		}
-	}
+	checkReport(t, "IsMeasure", impl.IsMeasure, []int{0, 1, -1, 4095, -4095, 4096, -4096}, beyondMeasures())
 }
 
 // beyondMeasures has no measures; some of them would be, if they were narrowed or multiplied by 8.
