@@ -783,20 +783,6 @@ func TestWorstDriftIsTheFirstFarthest(t *testing.T) {
 	}
 }
 
-// withSpare has the gusts of a list, with room for more behind them, in which there are others.
-func withSpare(w []impl.Gust) ([]impl.Gust, []impl.Gust) {
-	whole := append(slices.Clone(w), slices.Repeat(wind(gust(-7, 99, 98)), 150)...)
-	return whole[:len(w)], whole
-}
-
-// spoil writes to each gust of a result, and to its spare capacity.
-func spoil(w []impl.Gust) {
-	w = w[:cap(w)]
-	for i := range w {
-		w[i] = gust(77, 66, 55)
-	}
-}
-
 func windResults(w []impl.Gust) map[string][]impl.Gust {
 	joined, _ := impl.JoinWinds(w, wind(gust(3, 1, 1)), 60)
 	joinedBehind, _ := impl.JoinWinds(wind(gust(0, 1, 1)), w, 1)
@@ -809,23 +795,20 @@ func windResults(w []impl.Gust) map[string][]impl.Gust {
 
 func TestWindsShareNothing(t *testing.T) {
 	for _, w := range append(someWinds(), noWinds()...) {
-		part, whole := withSpare(w)
+		checkSharesNothing(t, w, gust(-7, 99, 98), gust(77, 66, 55), windResults)
+	}
+}
+
+func TestWindsAreNotChanged(t *testing.T) {
+	for _, w := range append(someWinds(), noWinds()...) {
+		part, whole := sparing(w, gust(-7, 99, 98))
 		before := slices.Clone(whole)
-		results, again := windResults(part), windResults(part)
 		impl.IsWind(part)
 		impl.DriftAt(part, 5)
 		impl.DriftOver(part, 1, 99)
 		impl.FitsRose(part, rose(at(0, 0)), 128)
-		for _, got := range results {
-			spoil(got)
-		}
 		if !slices.Equal(whole, before) {
 			t.Errorf("the argument %v is changed", w)
-		}
-		for what, want := range windResults(part) {
-			if !slices.Equal(again[what], want) {
-				t.Errorf("%s of %v shares memory with another result", what, w)
-			}
 		}
 	}
 }

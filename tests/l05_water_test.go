@@ -51,19 +51,11 @@ func noSupplies() []int {
 
 // smallLists has each list of up to size numbers, of which each is from least to most.
 func smallLists(size, least, most int) [][]int {
-	lists := [][]int{{}}
-	longest := lists
-	for range size {
-		var longer [][]int
-		for _, l := range longest {
-			for x := least; x <= most; x++ {
-				longer = append(longer, append(slices.Clone(l), x))
-			}
-		}
-		lists = append(lists, longer...)
-		longest = longer
+	var pool []int
+	for x := least; x <= most; x++ {
+		pool = append(pool, x)
 	}
-	return lists
+	return listsOf(size, pool...)
 }
 
 func totalByHand(l []int) int {
@@ -559,12 +551,6 @@ func TestLackOfAllShares(t *testing.T) {
 	}
 }
 
-// roomy has the numbers of a list, with room for more behind them, in which there are others.
-func roomy(l []int) ([]int, []int) {
-	whole := append(slices.Clone(l), slices.Repeat(ints(-77), 20)...)
-	return whole[:len(l)], whole
-}
-
 func shareResults(l []int) map[string][]int {
 	return map[string][]int{
 		"CutAt 0": impl.CutAt(l, 0), "CutAt 5": impl.CutAt(l, 5), "CutAt 64": impl.CutAt(l, 64), "CutAt 65": impl.CutAt(l, 65),
@@ -575,38 +561,22 @@ func shareResults(l []int) map[string][]int {
 
 func TestSharesShareNoMemory(t *testing.T) {
 	for _, l := range append(someDemands(), noDemands()...) {
-		part, whole := roomy(l)
-		before := slices.Clone(whole)
-		results, again := shareResults(part), shareResults(part)
-		impl.IsDemands(part)
-		impl.TotalOf(part)
-		impl.LevelFor(13, part)
-		for _, got := range results {
-			got = got[:cap(got)]
-			for i := range got {
-				got[i] = 99
-			}
-		}
-		if !slices.Equal(whole, before) {
-			t.Errorf("the argument %d is changed to %d", before, whole)
-		}
-		for what, want := range shareResults(part) {
-			if !slices.Equal(again[what], want) {
-				t.Errorf("%s of %d shares memory with another result", what, l)
-			}
-		}
+		checkSharesNothing(t, l, -77, 99, shareResults)
 	}
 }
 
 func TestSharesAreNotChanged(t *testing.T) {
 	for _, l := range append(someDemands(), noDemands()...) {
 		for _, s := range append(someDemands(), l) {
-			demands, wholeDemands := roomy(l)
-			shares, wholeShares := roomy(s)
+			demands, wholeDemands := sparing(l, -77)
+			shares, wholeShares := sparing(s, -77)
 			before, beforeShares := slices.Clone(wholeDemands), slices.Clone(wholeShares)
 			impl.IsFair(20, demands, shares)
 			impl.IsFair(512, demands, shares)
 			impl.LackOf(demands, shares)
+			impl.IsDemands(demands)
+			impl.TotalOf(demands)
+			impl.LevelFor(13, demands)
 			if !slices.Equal(wholeDemands, before) || !slices.Equal(wholeShares, beforeShares) {
 				t.Errorf("the arguments %d and %d are changed", before, beforeShares)
 			}

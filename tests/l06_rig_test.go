@@ -272,19 +272,7 @@ func somePool() []impl.Device {
 
 // poolLists has each list of up to four devices of a pool.
 func poolLists() [][]impl.Device {
-	lists := [][]impl.Device{{}}
-	longest := lists
-	for range 4 {
-		var longer [][]impl.Device
-		for _, l := range longest {
-			for _, d := range somePool() {
-				longer = append(longer, append(slices.Clone(l), d))
-			}
-		}
-		lists = append(lists, longer...)
-		longest = longer
-	}
-	return lists
+	return listsOf(4, somePool()...)
 }
 
 func allRigs() [][]impl.Device {
@@ -322,14 +310,6 @@ func TestIsRigOfAllLists(t *testing.T) {
 	}
 }
 
-// checkRig takes what was called as a format, which is filled in only if the result is another one.
-func checkRig(t *testing.T, got []impl.Device, ok bool, want []impl.Device, wantOk bool, what string, args ...any) {
-	t.Helper()
-	if !slices.Equal(got, want) || ok != wantOk {
-		t.Errorf("%s = %v, %t, not %v, %t", fmt.Sprintf(what, args...), got, ok, want, wantOk)
-	}
-}
-
 func TestAddDevice(t *testing.T) {
 	p, n, m := pump("p", 8), nozzle("f", "p", 3, 4, 0, 0, 1), lamp("h", "f", 1, 2)
 	l := rig(n, m, p)
@@ -358,7 +338,7 @@ func TestAddDevice(t *testing.T) {
 		if !wantOk {
 			want = c.l
 		}
-		checkRig(t, got, ok, want, wantOk, "AddDevice(%v, %v)", c.l, c.d)
+		checkList(t, got, ok, want, wantOk, "AddDevice(%v, %v)", c.l, c.d)
 	}
 }
 
@@ -381,13 +361,13 @@ func TestAddDeviceToAllLists(t *testing.T) {
 		for _, d := range devices {
 			got, ok := impl.AddDevice(l, d)
 			want, wantOk := addedByHand(l, d)
-			checkRig(t, got, ok, want, wantOk, "AddDevice(%v, %v)", l, d)
+			checkList(t, got, ok, want, wantOk, "AddDevice(%v, %v)", l, d)
 		}
 	}
 	for _, l := range someRigs() {
 		for _, d := range noDevices() {
 			got, ok := impl.AddDevice(l, d)
-			checkRig(t, got, ok, l, false, "AddDevice(%v, %v)", l, d)
+			checkList(t, got, ok, l, false, "AddDevice(%v, %v)", l, d)
 		}
 	}
 }
@@ -449,7 +429,7 @@ func TestRemoveDevice(t *testing.T) {
 		if !wantOk {
 			want = c.l
 		}
-		checkRig(t, got, ok, want, wantOk, "RemoveDevice(%v, %q)", c.l, c.name)
+		checkList(t, got, ok, want, wantOk, "RemoveDevice(%v, %q)", c.l, c.name)
 	}
 }
 
@@ -472,10 +452,10 @@ func TestRemoveDeviceOfAllRigs(t *testing.T) {
 		for _, name := range allNames() {
 			got, ok := impl.RemoveDevice(l, name)
 			want, wantOk := removedByHand(l, name)
-			checkRig(t, got, ok, want, wantOk, "RemoveDevice(%v, %q)", l, name)
+			checkList(t, got, ok, want, wantOk, "RemoveDevice(%v, %q)", l, name)
 			if i := impl.FindDevice(l, name); ok {
 				back, added := impl.AddDevice(got, l[i])
-				checkRig(t, back, added, l, true, "%q of %v, removed and added,", name, l)
+				checkList(t, back, added, l, true, "%q of %v, removed and added,", name, l)
 			}
 		}
 	}
@@ -689,7 +669,7 @@ func TestShiftRig(t *testing.T) {
 		{rig(p, l[0]), at(0, 0), nil}, {l[:2], at(0, 0), nil}, {append(fountain(), pump("z", 1)), at(0, 0), nil}, {rig(impl.Device{}), at(0, 0), nil},
 	} {
 		got, ok := impl.ShiftRig(c.l, c.by)
-		checkRig(t, got, ok, c.want, c.want != nil, "ShiftRig(%v, %v)", c.l, c.by)
+		checkList(t, got, ok, c.want, c.want != nil, "ShiftRig(%v, %v)", c.l, c.by)
 	}
 }
 
@@ -712,7 +692,7 @@ func TestShiftRigOfAllRigs(t *testing.T) {
 		for _, l := range lists {
 			got, ok := impl.ShiftRig(l, by)
 			want, wantOk := shiftedByHand(l, by)
-			checkRig(t, got, ok, want, wantOk, "ShiftRig(%v, %v)", l, by)
+			checkList(t, got, ok, want, wantOk, "ShiftRig(%v, %v)", l, by)
 			if back, backOk := impl.ShiftRig(got, at(-by.X, -by.Y)); ok && (!backOk || !slices.Equal(back, l)) {
 				t.Errorf("moved by %v and back, %v is %v", by, l, back)
 			}
@@ -720,7 +700,7 @@ func TestShiftRigOfAllRigs(t *testing.T) {
 	}
 	for _, l := range noRigs() {
 		got, ok := impl.ShiftRig(l, at(0, 0))
-		checkRig(t, got, ok, nil, false, "ShiftRig(%v) by nothing", l)
+		checkList(t, got, ok, nil, false, "ShiftRig(%v) by nothing", l)
 	}
 }
 
@@ -817,19 +797,10 @@ func deviceTexts() []string {
 // What is read of a changed text is a device of which just this text is written.
 func TestParseDeviceReadsNoOtherWritings(t *testing.T) {
 	for _, s := range deviceTexts() {
-		for i := range len(s) + 1 {
-			texts := []string{s[:i], s[i:]}
-			for c := range 256 {
-				texts = append(texts, s[:i]+string([]byte{byte(c)})+s[i:])
-				if i < len(s) {
-					texts = append(texts, s[:i]+string([]byte{byte(c)})+s[i+1:])
-				}
-			}
-			for _, text := range texts {
-				d, ok := impl.ParseDevice(text)
-				if ok && (!deviceByHand(d) || deviceText(d) != text) || !ok && d != (impl.Device{}) {
-					t.Errorf("ParseDevice(%q) = %v, %t", text, d, ok)
-				}
+		for _, text := range changedTexts(s) {
+			d, ok := impl.ParseDevice(text)
+			if ok && (!deviceByHand(d) || deviceText(d) != text) || !ok && d != (impl.Device{}) {
+				t.Errorf("ParseDevice(%q) = %v, %t", text, d, ok)
 			}
 		}
 	}
@@ -874,12 +845,6 @@ func TestParseDeviceRejects(t *testing.T) {
 	}
 }
 
-// sparing has the devices of a list, with room for more behind them, in which there are others.
-func sparing(l []impl.Device) ([]impl.Device, []impl.Device) {
-	whole := append(slices.Clone(l), slices.Repeat(pumps("spare"), 20)...)
-	return whole[:len(l)], whole
-}
-
 func rigResults(l []impl.Device) map[string][]impl.Device {
 	added, _ := impl.AddDevice(l, pump("p0", 1))
 	addedFirst, _ := impl.AddDevice(l, pump("a000", 1))
@@ -900,36 +865,18 @@ func rigResults(l []impl.Device) map[string][]impl.Device {
 
 func TestRigsShareNothing(t *testing.T) {
 	for _, l := range append(allRigs(), noRigs()...) {
-		part, whole := sparing(l)
-		before := slices.Clone(whole)
-		results, again := rigResults(part), rigResults(part)
-		for _, got := range results {
-			got = got[:cap(got)]
-			for i := range got {
-				got[i] = pump("spoilt", 77)
-			}
-		}
-		if !slices.Equal(whole, before) {
-			t.Errorf("the argument %v is changed", l)
-		}
-		for what, want := range rigResults(part) {
-			if !slices.Equal(again[what], want) {
-				t.Errorf("%s of %v shares memory with another result", what, l)
-			}
-		}
+		checkSharesNothing(t, l, pump("spare", 1), pump("spoilt", 77), rigResults)
 	}
 }
 
 func TestRigsAreNotChanged(t *testing.T) {
 	for _, l := range append(allRigs(), noRigs()...) {
-		part, whole := sparing(l)
+		part, whole := sparing(l, pump("spare", 1))
 		before := slices.Clone(whole)
 		impl.IsRig(part)
 		names := impl.OnLine(part, "p")
 		again := impl.OnLine(part, "p")
-		for i := range names {
-			names[i] = "spoilt"
-		}
+		spoil(names, "spoilt")
 		for _, name := range []string{"a", "c", "p", "spare", ""} {
 			impl.FindDevice(part, name)
 			impl.SameLine(part, name, "a")
