@@ -98,6 +98,14 @@ func someShows() []impl.Show {
 	return l
 }
 
+// quietShows are valid and throw no drop.
+func quietShows() []impl.Show {
+	return []impl.Show{
+		{}, show(nil, atOnce(5), wind(gust(0, 1, 1)), 64), show(three(10), nil, nil, 64), show(three(10), atOnce(5, 5), nil, 0), show(three(0), atOnce(5, 5), nil, 64),
+		show(single(0), atOnce(5), nil, 64), show(single(9), score(cue(64, "a", 5, 0)), nil, 64), show(pumps("a", "b"), atOnce(5, 5), nil, 64),
+	}
+}
+
 // noShows has shows with one fault each, whose other parts throw drops and light lamps.
 func noShows() []impl.Show {
 	l := []impl.Show{{Ticks: -1}, {Ticks: 65}, {Rig: rig(impl.Device{}), Ticks: 5}, {Score: score(impl.Cue{}), Ticks: 5}, {Wind: wind(gust(-1, 0, 0)), Ticks: 5}, show(rig(impl.Device{}), score(impl.Cue{}), wind(gust(0, 9, 0)), 65)}
@@ -415,7 +423,7 @@ func TestDropsAtOfSeveralNozzles(t *testing.T) {
 }
 
 func TestDropsAtOfNone(t *testing.T) {
-	for _, s := range []impl.Show{{}, show(nil, atOnce(5), wind(gust(0, 1, 1)), 64), show(three(10), nil, nil, 64), show(three(10), atOnce(5, 5), nil, 0), show(three(0), atOnce(5, 5), nil, 64), show(single(0), atOnce(5), nil, 64), show(single(9), score(cue(64, "a", 5, 0)), nil, 64), show(pumps("a", "b"), atOnce(5, 5), nil, 64)} {
+	for _, s := range quietShows() {
 		for _, i := range allTicks() {
 			checkDrops(t, s, i, nil)
 			if thrown, landed := impl.ThrownBy(s, i), impl.LandedBy(s, i); thrown != 0 || landed != 0 {
